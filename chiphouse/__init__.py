@@ -1,0 +1,1 @@
+"""chiphouse: a machine told by its instructions."""
