@@ -17,6 +17,17 @@ class Machine:
         self.halted = 0
 
 
+def copy_machine(machine):
+    copied = Machine()
+    copied.regs = list(machine.regs)
+    copied.pc = machine.pc
+    copied.may = machine.may
+    copied.came_from = machine.came_from
+    copied.cause = machine.cause
+    copied.halted = machine.halted
+    return copied
+
+
 def get_reg(machine, i):
     if i >= REGS:
         return [OUT_OF_RANGE]

@@ -17,6 +17,36 @@ class World:
         self.untold = []
 
 
+def copy_world(world):
+    copied = World()
+    copied.memory = list(world.memory)
+    copied.waiting = [list(words) for words in world.waiting]
+    copied.untold = list(world.untold)
+    return copied
+
+
+def fetch_at(world, p):
+    if p < MEMORY_SIZE:
+        return world.memory[p]
+    return 0
+
+
+def read_at(world, p):
+    if p < MEMORY_SIZE:
+        return world.memory[p]
+    words = world.waiting[p - MEMORY_SIZE]
+    if len(words) == 0:
+        return 0
+    return words.pop(0)
+
+
+def put_at(world, p, word):
+    if p < MEMORY_SIZE:
+        world.memory[p] = word
+    else:
+        world.untold.append((p - MEMORY_SIZE, word))
+
+
 def lies_in_memory(p, n):
     # No word at all stands nowhere, so it stands in no wrong place either, whatever p is.
     return n == 0 or p + n <= MEMORY_SIZE

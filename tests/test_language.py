@@ -29,6 +29,9 @@ NODES_OUT = (
     ast.AsyncFunctionDef, ast.AsyncFor, ast.AsyncWith, ast.SetComp, ast.DictComp, ast.GeneratorExp, ast.NamedExpr,
     ast.Starred, ast.Div, ast.MatMult, ast.Import, ast.AnnAssign,
 )
+CHANGES = ["append", "clear", "extend", "insert", "pop", "remove", "reverse", "setdefault", "update"]
+WALKED = ["zip", "enumerate", "reversed", "range", "items", "keys", "values"]
+WALKERS = ["list", "tuple", "dict", "sorted", "sum", "any", "all", "enumerate", "zip", "min", "max"]
 DUNDERS = ["__init__", "__eq__", "__repr__", "__str__", "__len__"]
 
 
@@ -62,6 +65,12 @@ def is_plain(node, functions):
     return isinstance(node, ast.Constant) and isinstance(node.value, (int, str, bool, type(None)))
 
 
+def holds_what_can_change(node):
+    """A list or dict that stands within the value of a name of the top."""
+    inner = [part for part in ast.walk(node) if part is not node]
+    return any(isinstance(part, (ast.List, ast.Dict)) for part in inner)
+
+
 def is_docstring(node):
     return isinstance(node, ast.Expr) and isinstance(node.value, ast.Constant) and isinstance(node.value.value, str)
 
@@ -81,6 +90,8 @@ def faults_of_top(tree):
             bound.append(node.targets[0].id)
             if not is_plain(node.value, functions):
                 yield "L3 value at the top"
+            if holds_what_can_change(node.value):
+                yield "L15 list or dict within a value at the top"
         elif not (place == 0 and is_docstring(node)):
             yield "L3 statement at the top"
     if len(set(bound)) != len(bound):
@@ -153,6 +164,50 @@ def faults_of_node(node):
         yield from faults_of_name(name)
 
 
+def called_name(node):
+    if isinstance(node, ast.Call) and isinstance(node.func, ast.Name):
+        return node.func.id
+    if isinstance(node, ast.Call) and isinstance(node.func, ast.Attribute):
+        return node.func.attr
+    return None
+
+
+def faults_of_uses(tree):
+    """Python's own names are called where they stand, and what only can be walked is walked there."""
+    called, walked = [], []
+    for node in ast.walk(tree):
+        if isinstance(node, ast.Call):
+            called.append(node.func)
+            called += [part.value for part in node.keywords if part.arg == "key"]
+            if called_name(node) == "isinstance":
+                called += list(ast.walk(node.args[1]))
+            if called_name(node) in WALKERS:
+                walked += node.args
+        if isinstance(node, (ast.For, ast.comprehension)):
+            walked.append(node.iter)
+        if isinstance(node, (ast.Raise, ast.ExceptHandler, ast.ClassDef)):
+            called += list(ast.walk(node))
+    for node in ast.walk(tree):
+        if isinstance(node, ast.Name) and node.id in OWN_NAMES and node not in called:
+            yield f"L22 {node.id} is not called"
+        if called_name(node) in WALKED and node not in walked:
+            yield f"L23 {called_name(node)} is not walked on the spot"
+        if isinstance(node, ast.Set) or called_name(node) in ("set", "frozenset"):
+            yield "L24 set"
+
+
+def faults_of_walks(tree):
+    """What a loop walks is not changed in it."""
+    for node in ast.walk(tree):
+        if not isinstance(node, ast.For):
+            continue
+        names = {part.id for part in ast.walk(node.iter) if isinstance(part, ast.Name)}
+        for part in ast.walk(ast.Module(body=node.body, type_ignores=[])):
+            if isinstance(part, ast.Attribute) and part.attr in CHANGES and isinstance(part.value, ast.Name):
+                if part.value.id in names:
+                    yield f"L23 {part.value.id} is changed while it is walked"
+
+
 def methods_and_values(trees):
     methods = []
     values = []
@@ -189,6 +244,7 @@ def faults_of_file(text):
         if isinstance(node, ast.ImportFrom):
             taken += [part.asname or part.name for part in node.names]
     found = list(faults_of_text(text)) + list(faults_of_top(tree))
+    found += list(faults_of_uses(tree)) + list(faults_of_walks(tree))
     for node in ast.walk(tree):
         found += faults_of_node(node)
         if isinstance(node, ast.FunctionDef):
@@ -264,6 +320,9 @@ class TheRules(unittest.TestCase):
             "class C:\n    x = 1\n", "def f(a):\n" + "    a = 1\n" * 40, "x = 1\n" + "#\n" * 400,
             "class C:\n    def __init__(self):\n        self.items = 1\n", "x = '" + "a" * 120 + "'\n",
             "def f(a):\n    for b in a:\n        pass\n    else:\n        pass\n", "def f(a):\n    return '%'\n",
+            "X = {1: [2]}\n", "X = [[1]]\n", "def f(a):\n    b = zip(a, a)\n    return b\n",
+            "def f(a):\n    b = len\n    return b(a)\n", "def f(a):\n    b = set(a)\n    return b\n",
+            "def f(a):\n    for b in a:\n        a.append(b)\n", "def f(a):\n    return a.items()\n",
             "def f(a):\n    try:\n        pass\n    finally:\n        pass\n", "@f\ndef g(a):\n    return a\n",
         )
         for text in wrong:

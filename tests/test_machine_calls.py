@@ -2,9 +2,7 @@
 
 import unittest
 
-from asking import ask, go, last, look, reg, set_to, state
-
-from chiphouse.machine import Machine, go_to, tell_state
+from asking import ask, changes, go, last, look, program, reg, run, set_to, state
 
 
 class RegAndSet(unittest.TestCase):
@@ -39,24 +37,17 @@ class GoAndState(unittest.TestCase):
             self.assertEqual(ask([go(7), go(p), state()]), [[0], [0], [p, 0, 0, 0, 0]], p)
 
     def test_order_of_the_five(self):
-        machine = Machine()
-        machine.pc = 11
-        machine.may = 1
-        machine.came_from = 33
-        machine.cause = 44
-        machine.halted = 1
-        self.assertEqual(tell_state(machine), [11, 1, 33, 44, 1])
+        before = [set_to(1, 33), program(0, "back r1", "trap 5", "ldi r2 1", "let r2", "halt"), run(4)]
+        self.assertEqual(last(before + [state()]), [4, 1, 2, 21, 0])
+        self.assertEqual(last(before + [run(1), state()]), [4, 1, 2, 21, 1])
+        self.assertEqual(last(before[:2] + [run(1), state()]), [1, 0, 33, 0, 0])
+        self.assertEqual(last(before[:2] + [program(2, "halt"), run(3), state()]), [2, 0, 2, 21, 1])
 
     def test_go_ends_a_halt_and_leaves_the_rest(self):
-        machine = Machine()
-        machine.may = 1
-        machine.came_from = 33
-        machine.cause = 44
-        machine.halted = 1
-        machine.regs[3] = 5
-        self.assertEqual(go_to(machine, 9), [0])
-        self.assertEqual(tell_state(machine), [9, 1, 33, 44, 0])
-        self.assertEqual(machine.regs, [0, 0, 0, 5, 0, 0, 0, 0])
+        before = [set_to(3, 5), program(0, "trap 5", "halt", "ldi r2 1", "let r2", "halt"), run(4)]
+        self.assertEqual(last(before + [state()]), [4, 1, 1, 21, 1])
+        for p in (0, 4, 9, 65535):
+            self.assertEqual(changes(before, go(p)), {"state": [p, 1, 1, 21, 0]}, p)
 
 
 if __name__ == "__main__":

@@ -2,9 +2,7 @@
 
 import unittest
 
-from asking import ask, feed, last, look, new, told
-
-from chiphouse.world import World, feed_words, tell_words
+from asking import ask, feed, last, look, new, program, run, set_to, told
 
 
 class Feed(unittest.TestCase):
@@ -47,11 +45,9 @@ class Feed(unittest.TestCase):
             self.assertEqual(look(before + [call]), look(before))
 
     def test_these_wait_behind_the_others(self):
-        world = World()
-        feed_words(world, 6, [3, 1])
-        feed_words(world, 6, [2])
-        feed_words(world, 6, [5] * 62)
-        self.assertEqual(world.waiting[6], [3, 1, 2])
+        calls = [feed(6, [3, 1]), feed(6, [2]), feed(6, [5] * 62), feed(7, [9])]
+        self.assertEqual(ask(calls), [[2], [3], [-3], [1]])
+        self.assertEqual(look(calls)["waiting"], {6: [3, 1, 2], 7: [9]})
 
 
 class Told(unittest.TestCase):
@@ -62,10 +58,16 @@ class Told(unittest.TestCase):
         self.assertEqual(last([feed(1, [4, 5]), told()]), [0])
 
     def test_each_with_its_number_the_first_first_and_once(self):
-        world = World()
-        world.untold = [(15, 7), (0, 65535), (15, 7)]
-        self.assertEqual(tell_words(world), [3, 15, 7, 0, 65535, 15, 7])
-        self.assertEqual(tell_words(world), [0])
+        lines = ("st r1 r0 -1", "st r2 r0 -16", "st r1 r0 -1")
+        calls = [set_to(1, 7), set_to(2, 65535), program(0, *lines), run(3), told(), told()]
+        self.assertEqual(ask(calls)[4:], [[3, 15, 7, 0, 65535, 15, 7], [0]])
+
+    def test_since_new(self):
+        before = [set_to(1, 7), program(0, "st r1 r0 -1", "st r1 r0 -1"), run(2)]
+        self.assertEqual(ask(before + [new(), told()])[3:], [[0], [0]])
+
+    def test_put_in_memory_is_not_told(self):
+        self.assertEqual(last([program(0, "st r1 r0 5", "st r1 r0 -17"), run(2), told()]), [0])
 
 
 if __name__ == "__main__":
